@@ -9,12 +9,13 @@ import (
 
 	"cadenza/api"
 	"cadenza/bits"
+	"cadenza/internal/rows"
 )
 
 func TestP2_2JoinOfShortOnes(t *testing.T) {
-	for _, a := range texts(18) {
-		for _, b := range texts(18) {
-			c, e := bits.Join(row(a), row(b))
+	for _, a := range rows.Texts(18) {
+		for _, b := range rows.Texts(18) {
+			c, e := bits.Join(rows.Bits(a), rows.Bits(b))
 			wantBits(t, fmt.Sprint("Join ", a, " ", b), c, e, a+b)
 		}
 	}
@@ -23,37 +24,37 @@ func TestP2_2JoinOfShortOnes(t *testing.T) {
 func TestP2_2JoinOfLongOnes(t *testing.T) {
 	for _, m := range []int{0, 1, 7, 8, 63, 64, 65, 1000, 1001} {
 		for _, n := range []int{0, 1, 7, 8, 63, 64, 65, 1000, 1003} {
-			a, b := noise(m, m), noise(n+50, n)
-			c, e := bits.Join(row(a), row(b))
+			a, b := rows.Noise(m, m), rows.Noise(n+50, n)
+			c, e := bits.Join(rows.Bits(a), rows.Bits(b))
 			wantBits(t, fmt.Sprint("Join ", m, " ", n), c, e, a+b)
 		}
 	}
 }
 
 func TestP2_2JoinUpToTheLimit(t *testing.T) {
-	all := noise(7, api.MaxBits)
+	all := rows.Noise(7, api.MaxBits)
 	for _, n := range []int{0, 1, 7, 8, 9, 100, 165000, api.MaxBits - 9, api.MaxBits - 1, api.MaxBits} {
-		a, b := row(all[:n]), row(all[n:])
+		a, b := rows.Bits(all[:n]), rows.Bits(all[n:])
 		c, e := bits.Join(a, b)
-		if e != api.OK || !same(c, row(all)) {
+		if e != api.OK || !rows.Same(c, rows.Bits(all)) {
 			t.Errorf("Join of %d and %d: %d", a.N, b.N, e)
 		}
-		for _, more := range []string{"0", "1", "00000000", noise(1, 500)} {
-			if c, e := bits.Join(a, row(all[n:]+more)); n >= len(more) {
+		for _, more := range []string{"0", "1", "00000000", rows.Noise(1, 500)} {
+			if c, e := bits.Join(a, rows.Bits(all[n:]+more)); n >= len(more) {
 				wantNoBits(t, fmt.Sprint("Join of ", n, " and too many"), c, e, api.ErrFull)
 			}
-			if c, e := bits.Join(row(all[:n]+more), b); b.N >= len(more) {
+			if c, e := bits.Join(rows.Bits(all[:n]+more), b); b.N >= len(more) {
 				wantNoBits(t, fmt.Sprint("Join of too many and ", b.N), c, e, api.ErrFull)
 			}
 		}
 	}
-	c, e := bits.Join(full(0), full(0))
+	c, e := bits.Join(rows.Full(0), rows.Full(0))
 	wantNoBits(t, "Join of all and all", c, e, api.ErrFull)
 }
 
 func TestP2_2JoinRefusesInOrder(t *testing.T) {
-	for what, b := range broken() {
-		for _, a := range []api.Bits{{}, row("1"), full(0), b} {
+	for what, b := range rows.Broken() {
+		for _, a := range []api.Bits{{}, rows.Bits("1"), rows.Full(0), b} {
 			c, e := bits.Join(a, b)
 			wantNoBits(t, "Join of valid ones and "+what, c, e, api.ErrBad)
 			c, e = bits.Join(b, a)
@@ -63,8 +64,8 @@ func TestP2_2JoinRefusesInOrder(t *testing.T) {
 }
 
 func TestP2_2CutOfEachPart(t *testing.T) {
-	for _, text := range []string{"", "0", "1", "1011", "11111111", noise(1, 17), noise(2, 33), strings.Repeat("1", 26)} {
-		b := row(text)
+	for _, text := range []string{"", "0", "1", "1011", "11111111", rows.Noise(1, 17), rows.Noise(2, 33), strings.Repeat("1", 26)} {
+		b := rows.Bits(text)
 		for from := range len(text) + 1 {
 			for to := range len(text) + 1 {
 				c, e := bits.Cut(b, from, to)
@@ -80,11 +81,11 @@ func TestP2_2CutOfEachPart(t *testing.T) {
 }
 
 func TestP2_2CutOfLongOnes(t *testing.T) {
-	all := noise(7, api.MaxBits)
-	b := row(all)
+	all := rows.Noise(7, api.MaxBits)
+	b := rows.Bits(all)
 	for _, p := range [][2]int{{0, api.MaxBits}, {1, api.MaxBits}, {0, api.MaxBits - 1}, {8, api.MaxBits - 8}, {13, 300000}, {299999, api.MaxBits}, {api.MaxBits - 1, api.MaxBits}, {api.MaxBits, api.MaxBits}, {4096, 4096 + 640}} {
 		c, e := bits.Cut(b, p[0], p[1])
-		if e != api.OK || !same(c, row(all[p[0]:p[1]])) {
+		if e != api.OK || !rows.Same(c, rows.Bits(all[p[0]:p[1]])) {
 			t.Errorf("Cut of all %v: %d bits, %d", p, c.N, e)
 		}
 	}
@@ -101,7 +102,7 @@ func TestP2_2CutLooksAtTheLengthNotTheCapacity(t *testing.T) {
 }
 
 func TestP2_2CutRefusesIndicesThatAreNone(t *testing.T) {
-	for _, b := range []api.Bits{{}, row("1"), row(noise(1, 16)), full(0)} {
+	for _, b := range []api.Bits{{}, rows.Bits("1"), rows.Bits(rows.Noise(1, 16)), rows.Full(0)} {
 		for _, bad := range []int{math.MinInt, math.MinInt + 1, -1 << 32, -8, -1, b.N + 1, b.N + 8, 1<<32 + 1, math.MaxInt - 1, math.MaxInt} {
 			for _, other := range []int{bad, 0, b.N, b.N / 2} {
 				c, e := bits.Cut(b, bad, other)
@@ -111,7 +112,7 @@ func TestP2_2CutRefusesIndicesThatAreNone(t *testing.T) {
 			}
 		}
 	}
-	for what, b := range broken() {
+	for what, b := range rows.Broken() {
 		for _, p := range [][2]int{{0, 0}, {0, 1}, {1, 0}, {-1, 9}} {
 			c, e := bits.Cut(b, p[0], p[1])
 			wantNoBits(t, "Cut of "+what, c, e, api.ErrBad)
@@ -127,7 +128,7 @@ func TestP2_2OfIsAllBits(t *testing.T) {
 	b, e := bits.Of([]byte{53, 0, 128})
 	wantBits(t, "Of", b, e, "10101100"+"00000000"+"00000001")
 	for size := range 20 {
-		p := row(noise(size, 8*size)).Bytes
+		p := rows.Bits(rows.Noise(size, 8*size)).Bytes
 		b, e := bits.Of(p)
 		if e != api.OK || b.N != 8*size || !bytes.Equal(b.Bytes, p) {
 			t.Errorf("Of(%v) = %v, %d", p, b, e)
@@ -136,7 +137,7 @@ func TestP2_2OfIsAllBits(t *testing.T) {
 }
 
 func TestP2_2OfUpToTheLimit(t *testing.T) {
-	p := full(0).Bytes
+	p := rows.Full(0).Bytes
 	for _, size := range []int{41249, 41250} {
 		b, e := bits.Of(p[:size])
 		if e != api.OK || b.N != 8*size || !bytes.Equal(b.Bytes, p[:size]) {
@@ -150,24 +151,24 @@ func TestP2_2OfUpToTheLimit(t *testing.T) {
 }
 
 func TestP2_2AlignPutsZerosBehind(t *testing.T) {
-	for _, text := range texts(40) {
-		b, e := bits.Align(row(text))
+	for _, text := range rows.Texts(40) {
+		b, e := bits.Align(rows.Bits(text))
 		wantBits(t, "Align "+text, b, e, text+strings.Repeat("0", (8-len(text)%8)%8))
 	}
 }
 
 func TestP2_2AlignUpToTheLimit(t *testing.T) {
 	for less := range 10 {
-		text := noise(7, api.MaxBits-less)
-		b, e := bits.Align(row(text))
-		if e != api.OK || !same(b, row(text+strings.Repeat("0", less%8))) {
+		text := rows.Noise(7, api.MaxBits-less)
+		b, e := bits.Align(rows.Bits(text))
+		if e != api.OK || !rows.Same(b, rows.Bits(text+strings.Repeat("0", less%8))) {
 			t.Errorf("Align of MaxBits less %d: %d bits, %d", less, b.N, e)
 		}
 	}
 }
 
 func TestP2_2AlignRefusesBitsThatAreNotValid(t *testing.T) {
-	for what, b := range broken() {
+	for what, b := range rows.Broken() {
 		c, e := bits.Align(b)
 		wantNoBits(t, "Align of "+what, c, e, api.ErrBad)
 	}

@@ -9,11 +9,12 @@ import (
 
 	"cadenza/api"
 	"cadenza/bits"
+	"cadenza/internal/rows"
 )
 
 func TestP2_1CheckOfValidBits(t *testing.T) {
-	for _, text := range texts(40) {
-		if e := bits.Check(row(text)); e != api.OK {
+	for _, text := range rows.Texts(40) {
+		if e := bits.Check(rows.Bits(text)); e != api.OK {
 			t.Errorf("Check(%q): %d", text, e)
 		}
 	}
@@ -23,14 +24,14 @@ func TestP2_1CheckOfValidBits(t *testing.T) {
 		}
 	}
 	for less := range 20 {
-		if e := bits.Check(full(less)); e != api.OK {
+		if e := bits.Check(rows.Full(less)); e != api.OK {
 			t.Errorf("Check of MaxBits less %d: %d", less, e)
 		}
 	}
 }
 
 func TestP2_1CheckOfOthers(t *testing.T) {
-	for what, b := range broken() {
+	for what, b := range rows.Broken() {
 		if e := bits.Check(b); e != api.ErrBad {
 			t.Errorf("Check of %s: %d", what, e)
 		}
@@ -65,11 +66,11 @@ func TestP2_1Example(t *testing.T) {
 }
 
 func TestP2_1PutOfEachLengthBehindEachOther(t *testing.T) {
-	for _, text := range texts(18) {
+	for _, text := range rows.Texts(18) {
 		for n := range 65 {
 			for _, v := range []uint64{0, 1, 0x0123456789abcdef, 0xfedcba9876543210, math.MaxUint64} {
 				v = number(digits(v, n))
-				b, e := bits.Put(row(text), v, n)
+				b, e := bits.Put(rows.Bits(text), v, n)
 				wantBits(t, fmt.Sprint("Put ", text, " ", v, " ", n), b, e, text+digits(v, n))
 			}
 		}
@@ -86,14 +87,14 @@ func TestP2_1PutBehindNothing(t *testing.T) {
 }
 
 func TestP2_1PutRefusesNumbersThatAreTooGreat(t *testing.T) {
-	for _, text := range []string{"", "1", "10110", "11111111", noise(3, 63)} {
+	for _, text := range []string{"", "1", "10110", "11111111", rows.Noise(3, 63)} {
 		for n := range 64 {
 			least := number(digits(0, n) + "1")
 			for _, v := range []uint64{least, least + 1, 2*least - 1, 1 << 63, math.MaxUint64} {
-				b, e := bits.Put(row(text), v, n)
+				b, e := bits.Put(rows.Bits(text), v, n)
 				wantNoBits(t, fmt.Sprint("Put ", text, " ", v, " ", n), b, e, api.ErrRange)
 			}
-			b, e := bits.Put(row(text), least-1, n)
+			b, e := bits.Put(rows.Bits(text), least-1, n)
 			wantBits(t, fmt.Sprint("Put ", text, " ", least-1, " ", n), b, e, text+strings.Repeat("1", n))
 		}
 	}
@@ -102,14 +103,14 @@ func TestP2_1PutRefusesNumbersThatAreTooGreat(t *testing.T) {
 func TestP2_1PutUpToTheLimit(t *testing.T) {
 	for _, n := range []int{0, 1, 2, 7, 8, 9, 63, 64} {
 		for _, room := range []int{n, n + 1, n + 8} {
-			b, e := bits.Put(full(room), 0, n)
+			b, e := bits.Put(rows.Full(room), 0, n)
 			if e != api.OK || b.N != api.MaxBits-room+n || len(b.Bytes) != (b.N+7)/8 {
 				t.Errorf("Put of %d bits with room for %d: %d, %d", n, room, b.N, e)
 			}
 		}
 		for _, room := range []int{n - 1, n - 2, n - 8, 0} {
 			if room >= 0 && room < n {
-				b, e := bits.Put(full(room), 0, n)
+				b, e := bits.Put(rows.Full(room), 0, n)
 				wantNoBits(t, fmt.Sprint("Put of ", n, " with room for ", room), b, e, api.ErrFull)
 			}
 		}
@@ -117,15 +118,15 @@ func TestP2_1PutUpToTheLimit(t *testing.T) {
 }
 
 func TestP2_1PutRefusesInOrder(t *testing.T) {
-	for what, b := range broken() {
+	for what, b := range rows.Broken() {
 		for _, n := range []int{-1, 0, 1, 64, 65, math.MaxInt} {
 			c, e := bits.Put(b, math.MaxUint64, n)
 			wantNoBits(t, "Put behind "+what, c, e, api.ErrBad)
 		}
 	}
-	last := full(0)
+	last := rows.Full(0)
 	for _, n := range badCounts {
-		for _, b := range []api.Bits{{}, row("101"), last} {
+		for _, b := range []api.Bits{{}, rows.Bits("101"), last} {
 			for _, v := range []uint64{0, 1, math.MaxUint64} {
 				c, e := bits.Put(b, v, n)
 				wantNoBits(t, fmt.Sprint("Put of ", v, " ", n), c, e, api.ErrArg)
@@ -141,10 +142,10 @@ func TestP2_1PutRefusesInOrder(t *testing.T) {
 }
 
 func TestP2_1GetOfEachPart(t *testing.T) {
-	for _, text := range []string{"", "1", "0", "1011", "11111111", noise(1, 30), noise(2, 80), noise(4, 90), strings.Repeat("1", 85)} {
+	for _, text := range []string{"", "1", "0", "1011", "11111111", rows.Noise(1, 30), rows.Noise(2, 80), rows.Noise(4, 90), strings.Repeat("1", 85)} {
 		for at := range len(text) + 1 {
 			for n := range 65 {
-				v, e := bits.Get(row(text), at, n)
+				v, e := bits.Get(rows.Bits(text), at, n)
 				what := fmt.Sprint("Get ", text, " ", at, " ", n)
 				if at+n > len(text) {
 					wantNumber(t, what, v, e, 0, api.ErrShort)
@@ -157,7 +158,7 @@ func TestP2_1GetOfEachPart(t *testing.T) {
 }
 
 func TestP2_1GetAtTheEndAndBeyond(t *testing.T) {
-	for _, b := range []api.Bits{{}, row("1"), row(noise(5, 8)), row(noise(6, 70)), full(0)} {
+	for _, b := range []api.Bits{{}, rows.Bits("1"), rows.Bits(rows.Noise(5, 8)), rows.Bits(rows.Noise(6, 70)), rows.Full(0)} {
 		v, e := bits.Get(b, b.N, 0)
 		wantNumber(t, fmt.Sprint("Get of no bits at the end of ", b.N), v, e, 0, api.OK)
 		for n := 1; n <= 64; n++ {
@@ -179,7 +180,7 @@ func TestP2_1GetAtTheEndAndBeyond(t *testing.T) {
 
 // The chapter's most direct reading: no bits are there from an index beyond the end on, as there is no such place.
 func TestP2_1GetOfNoBitsBeyondTheEnd(t *testing.T) {
-	for _, b := range []api.Bits{{}, row("1"), row(noise(5, 8))} {
+	for _, b := range []api.Bits{{}, rows.Bits("1"), rows.Bits(rows.Noise(5, 8))} {
 		for _, at := range []int{b.N + 1, b.N + 9, math.MaxInt} {
 			v, e := bits.Get(b, at, 0)
 			wantNumber(t, fmt.Sprint("Get of no bits of ", b.N, " at ", at), v, e, 0, api.ErrShort)
@@ -196,7 +197,7 @@ func TestP2_1GetLooksAtTheLengthNotTheCapacity(t *testing.T) {
 }
 
 func TestP2_1GetRefusesInOrder(t *testing.T) {
-	for what, b := range broken() {
+	for what, b := range rows.Broken() {
 		for _, at := range []int{-1, 0, 1, math.MaxInt} {
 			for _, n := range []int{-1, 0, 1, 64, 65} {
 				v, e := bits.Get(b, at, n)
@@ -204,8 +205,8 @@ func TestP2_1GetRefusesInOrder(t *testing.T) {
 			}
 		}
 	}
-	long := row(noise(9, 400))
-	for _, b := range []api.Bits{{}, row("1"), long} {
+	long := rows.Bits(rows.Noise(9, 400))
+	for _, b := range []api.Bits{{}, rows.Bits("1"), long} {
 		for _, n := range badCounts {
 			for _, at := range []int{math.MinInt, -1, 0, 1, 400, math.MaxInt} {
 				v, e := bits.Get(b, at, n)

@@ -1,0 +1,41 @@
+package rows
+
+import (
+	"math"
+	"strings"
+
+	"cadenza/api"
+)
+
+// Broken are bits that are not valid, each for one reason.
+func Broken() map[string]api.Bits {
+	m := map[string]api.Bits{
+		"a negative N":                   {N: -1},
+		"a negative N with a byte":       {Bytes: []byte{0}, N: -1},
+		"N -8":                           {N: -8},
+		"the least N":                    {N: math.MinInt},
+		"the greatest N":                 {N: math.MaxInt},
+		"N MaxInt-6":                     {N: math.MaxInt - 6},
+		"no byte for one bit":            {N: 1},
+		"no byte for eight":              {Bytes: []byte{}, N: 8},
+		"a byte for none":                {Bytes: []byte{0}, N: 0},
+		"a byte too few":                 {Bytes: []byte{1}, N: 9},
+		"a byte too many":                {Bytes: []byte{1, 0}, N: 8},
+		"a byte of 0 too many":           {Bytes: []byte{255, 3, 0}, N: 10},
+		"bytes only behind the length":   {Bytes: []byte{1, 1}[:0], N: 16},
+		"a 1 just behind":                {Bytes: []byte{2}, N: 1},
+		"a 1 at the end":                 {Bytes: []byte{128}, N: 7},
+		"a 1 behind in the second":       {Bytes: []byte{255, 8}, N: 11},
+		"a bit more than MaxBits":        {Bytes: make([]byte, api.MaxBits/8+1), N: api.MaxBits + 1},
+		"a byte more than MaxBits":       {Bytes: make([]byte, api.MaxBits/8+1), N: api.MaxBits + 8},
+		"MaxBits and a byte too many":    {Bytes: make([]byte, api.MaxBits/8+1), N: api.MaxBits},
+		"MaxBits and a byte too few":     {Bytes: make([]byte, api.MaxBits/8-1), N: api.MaxBits},
+		"far more than MaxBits":          {Bytes: make([]byte, api.MaxBits), N: 8 * api.MaxBits},
+		"N beyond 32 bits, else N 8":     {Bytes: []byte{0}, N: 1<<32 + 8},
+		"nothing, and N of a whole byte": {N: 256},
+	}
+	for n := 1; n < 8; n++ {
+		m["ones behind "+strings.Repeat("i", n)] = api.Bits{Bytes: []byte{255}, N: n}
+	}
+	return m
+}
