@@ -13,9 +13,6 @@ import (
 // badNumbers have no run; some would have one if they were cut to fewer bits, or their sign lost.
 var badNumbers = []int{math.MinInt, math.MinInt + 5, -1 << 32, -256, -64, -49, -48, -47, -2, -1, 49, 50, 63, 64, 65, 96, 127, 128, 255, 256, 260, 1 << 16, 1<<32 + 3, math.MaxInt - 1, math.MaxInt}
 
-// badIndexes are less than 0.
-var badIndexes = []int{math.MinInt, math.MinInt + 1, math.MinInt + 48, -1 << 32, -64, -49, -48, -8, -2, -1}
-
 // run is the run of a number as a text of zeros and ones.
 func run(n int) string {
 	if n == 48 {
@@ -52,11 +49,6 @@ func firstRun(text string) (n, length int) {
 		}
 	}
 	return -1, 0
-}
-
-// heads stand in front of runs: of each number of bits that a byte has left, with ones and zeros at their ends.
-func heads() []string {
-	return append(rows.Texts(17), rows.Noise(1, 63), rows.Noise(2, 64), rows.Noise(3, 65), rows.Noise(4, 130))
 }
 
 func wantWritten(t *testing.T, head string, n int) {

@@ -127,7 +127,7 @@ func TestP1ArgumentsAreOnlyReadAndMemoryIsNotShared(t *testing.T) {
 		}
 		return l
 	}
-	for _, text := range append(heads(), strings.Repeat("1", 100)) {
+	for _, text := range append(rows.Heads(), strings.Repeat("1", 100)) {
 		if fault := rows.MemoryFault(text, calls); fault != "" {
 			t.Fatalf("%q: %s", text, fault)
 		}
@@ -142,7 +142,7 @@ func TestP1ResultsAreValidForAllArguments(t *testing.T) {
 	}
 	ints := append([]int{0, 1, 7, 8, 47, 48, api.MaxBits - 1, api.MaxBits, math.MaxInt}, badNumbers...)
 	for _, b := range args {
-		for _, i := range append(ints, badIndexes...) {
+		for _, i := range append(ints, rows.BadIndexes()...) {
 			c, e := unary.Write(b, i)
 			if bits.Check(c) != api.OK || e != api.OK && c.N != 0 {
 				t.Fatalf("Write(%d bits, %d): %d bits, %d bytes, %d", b.N, i, c.N, len(c.Bytes), e)

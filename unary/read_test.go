@@ -11,7 +11,7 @@ import (
 )
 
 func TestP6_3AllNumbersAnywhere(t *testing.T) {
-	for _, head := range heads() {
+	for _, head := range rows.Heads() {
 		for _, tail := range []string{"", "0", "1", "01", "10", strings.Repeat("0", 60), strings.Repeat("1", 60)} {
 			for n := range 49 {
 				text := head + run(n) + tail
@@ -59,7 +59,7 @@ func TestP6_3OnesOnly(t *testing.T) {
 }
 
 func TestP6_3BitsThatEndBeforeTheRunDoes(t *testing.T) {
-	for _, head := range heads() {
+	for _, head := range rows.Heads() {
 		for n := range 49 {
 			for length := range len(run(n)) {
 				wantNotRead(t, head, rows.Bits(head+run(n)[:length]), len(head), api.ErrShort)
@@ -108,11 +108,11 @@ func TestP6_3LooksAtTheLengthNotTheCapacity(t *testing.T) {
 
 func TestP6_3RefusesInOrder(t *testing.T) {
 	for what, b := range rows.Broken() {
-		for _, at := range append([]int{0, 1, 9, api.MaxBits, math.MaxInt}, badIndexes...) {
+		for _, at := range append([]int{0, 1, 9, api.MaxBits, math.MaxInt}, rows.BadIndexes()...) {
 			wantNotRead(t, what, b, at, api.ErrBad)
 		}
 	}
-	for _, at := range badIndexes {
+	for _, at := range rows.BadIndexes() {
 		for _, text := range []string{"", "0", "1", "0000000000", strings.Repeat("1", 200)} {
 			wantNotRead(t, text, rows.Bits(text), at, api.ErrArg)
 		}

@@ -45,7 +45,7 @@ func TestP6_2Examples(t *testing.T) {
 }
 
 func TestP6_2AllNumbersBehindBits(t *testing.T) {
-	for _, head := range heads() {
+	for _, head := range rows.Heads() {
 		for n := range 49 {
 			wantWritten(t, head, n)
 		}

@@ -39,3 +39,8 @@ func Broken() map[string]api.Bits {
 	}
 	return m
 }
+
+// BadIndexes are less than 0; some would not be if they were cut to fewer bits, or something added to them.
+func BadIndexes() []int {
+	return []int{math.MinInt, math.MinInt + 1, math.MinInt + 48, -1 << 32, -64, -49, -48, -8, -2, -1}
+}

@@ -49,6 +49,11 @@ func Texts(most int) []string {
 	return l
 }
 
+// Heads are texts to stand in front of what is looked at: with each number of bits in their last byte, and ones and zeros at their ends.
+func Heads() []string {
+	return append(Texts(17), Noise(1, 63), Noise(2, 64), Noise(3, 65), Noise(4, 130))
+}
+
 // Full are as many bits as there may be, less some.
 func Full(less int) api.Bits { return Bits(Noise(7, api.MaxBits-less)) }
 
