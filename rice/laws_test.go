@@ -15,21 +15,12 @@ import (
 // text is the code of a number as Write makes it, as a text of zeros and ones.
 func text(t *testing.T, v uint32, k int) string {
 	t.Helper()
-	b := mustWrite(t, api.Bits{}, v, k)
-	var s strings.Builder
-	for at := range b.N {
-		bit, e := bits.Get(b, at, 1)
-		if e != api.OK {
-			t.Fatalf("Write(%d, %d) = %v: %d", v, k, b, e)
-		}
-		s.WriteByte('0' + byte(bit))
-	}
-	return s.String()
+	return rows.Text(mustWrite(t, api.Bits{}, v, k))
 }
 
 // sorted are the numbers of a parameter, each of them once, the least one first.
 func sorted(k int) []uint32 {
-	l := numbers(k)
+	l := rows.RiceNumbers(k)
 	slices.Sort(l)
 	return slices.Compact(l)
 }
@@ -58,7 +49,7 @@ func TestP7_4NoCodeBeginsAnotherOne(t *testing.T) {
 
 func TestP7_4CodesBehindEachOtherAreReadAsTheNumbers(t *testing.T) {
 	for k := range 25 {
-		l := numbers(k)
+		l := rows.RiceNumbers(k)
 		var b api.Bits
 		for i, v := range l {
 			b = mustWrite(t, b, v, (k+i/7)%25)
@@ -96,14 +87,14 @@ func TestP7_4WhatIsReadHasJustThisCode(t *testing.T) {
 		wantReadIsItsCode(t, rows.Noise(k, 5)+ones+rows.Noise(k+50, 90), k)
 		for i := range 32 {
 			// Behind MaxRun: numbers near the least one that may stand there, and powers of 2.
-			wantReadIsItsCode(t, ones+digits(48*power(k)-16+uint64(i), 32), k)
-			wantReadIsItsCode(t, ones+digits(power(i), 32), k)
+			wantReadIsItsCode(t, ones+rows.Digits(48*rows.Power(k)-16+uint64(i), 32), k)
+			wantReadIsItsCode(t, ones+rows.Digits(rows.Power(i), 32), k)
 		}
 	}
 	for k := range 5 {
 		for length := range 10 {
 			for x := range uint64(1) << length {
-				wantReadIsItsCode(t, digits(x, length), k)
+				wantReadIsItsCode(t, rows.Digits(x, length), k)
 			}
 		}
 	}
@@ -111,12 +102,12 @@ func TestP7_4WhatIsReadHasJustThisCode(t *testing.T) {
 
 func TestP7_4HowLongCodesAre(t *testing.T) {
 	for k := range 25 {
-		for _, v := range numbers(k) {
+		for _, v := range rows.RiceNumbers(k) {
 			length := mustLength(t, v, k)
 			if length < k+1 || length > 80 {
 				t.Errorf("Length(%d, %d) = %d", v, k, length)
 			}
-			if uint64(v) < power(k) && length != k+1 {
+			if uint64(v) < rows.Power(k) && length != k+1 {
 				t.Errorf("Length(%d, %d) = %d", v, k, length)
 			}
 			if b := mustWrite(t, api.Bits{}, v, k); b.N != length {
@@ -189,7 +180,7 @@ func TestP1ResultsAreValidForAllArguments(t *testing.T) {
 }
 
 func TestP1NothingIsKeptFromCallToCall(t *testing.T) {
-	b := rows.Bits("0" + code(math.MaxUint32, 2) + code(9, 2))
+	b := rows.Bits("0" + rows.Rice(math.MaxUint32, 2) + rows.Rice(9, 2))
 	for range 3 {
 		wantNotRead(t, "bits", b, -1, 2, api.ErrArg)
 		wantNotRead(t, "bits", b, 0, 25, api.ErrArg)

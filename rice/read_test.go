@@ -13,11 +13,11 @@ import (
 func TestP7_3AllParametersAnywhere(t *testing.T) {
 	tails := []string{"", "0", "1", strings.Repeat("0", 90), strings.Repeat("1", 90)}
 	for k := range 25 {
-		for _, v := range numbers(k) {
+		for _, v := range rows.RiceNumbers(k) {
 			for _, head := range []string{"", "1", "1011010", "00000000", rows.Noise(k, 67)} {
 				for _, tail := range tails {
-					text := head + code(v, k) + tail
-					wantRead(t, text, rows.Bits(text), len(head), k, v, len(head)+len(code(v, k)))
+					text := head + rows.Rice(v, k) + tail
+					wantRead(t, text, rows.Bits(text), len(head), k, v, len(head)+len(rows.Rice(v, k)))
 				}
 			}
 		}
@@ -25,8 +25,8 @@ func TestP7_3AllParametersAnywhere(t *testing.T) {
 	for _, head := range rows.Heads() {
 		for _, k := range []int{0, 1, 7, 8, 24} {
 			for _, v := range []uint32{0, 1, 100, 47 << k, 48<<k - 1, 48 << k, math.MaxUint32} {
-				text := head + code(v, k) + "10"
-				wantRead(t, text, rows.Bits(text), len(head), k, v, len(head)+len(code(v, k)))
+				text := head + rows.Rice(v, k) + "10"
+				wantRead(t, text, rows.Bits(text), len(head), k, v, len(head)+len(rows.Rice(v, k)))
 			}
 		}
 	}
@@ -37,7 +37,7 @@ func wantFirstCodes(t *testing.T, text string, k int) {
 	t.Helper()
 	b := rows.Bits(text)
 	for at := range len(text) + 1 {
-		v, length, e := firstCode(text[at:], k)
+		v, length, e := rows.FirstRice(text[at:], k)
 		if e != api.OK {
 			wantNotRead(t, text, b, at, k, e)
 			continue
@@ -50,7 +50,7 @@ func TestP7_3AllShortBits(t *testing.T) {
 	for k := range 12 {
 		for length := range 11 {
 			for x := range uint64(1) << length {
-				wantFirstCodes(t, digits(x, length), k)
+				wantFirstCodes(t, rows.Digits(x, length), k)
 			}
 		}
 	}
@@ -63,8 +63,8 @@ func TestP7_3LongBits(t *testing.T) {
 		wantFirstCodes(t, strings.Repeat("1", 130), k)
 		wantFirstCodes(t, strings.Repeat("0", 130), k)
 		text := ""
-		for _, v := range numbers(k) {
-			text += code(v, k)
+		for _, v := range rows.RiceNumbers(k) {
+			text += rows.Rice(v, k)
 		}
 		wantFirstCodes(t, text[:2000], k)
 	}
@@ -74,8 +74,8 @@ func TestP7_3BitsThatEndBeforeTheCodeDoes(t *testing.T) {
 	for k := range 25 {
 		for _, v := range []uint32{0, 1, 1000, 47 << k, 48<<k - 1, 48 << k, 1 << 31, math.MaxUint32} {
 			for _, head := range []string{"", "1", "0000000", rows.Noise(k, 41)} {
-				for length := range len(code(v, k)) {
-					wantNotRead(t, head, rows.Bits(head+code(v, k)[:length]), len(head), k, api.ErrShort)
+				for length := range len(rows.Rice(v, k)) {
+					wantNotRead(t, head, rows.Bits(head+rows.Rice(v, k)[:length]), len(head), k, api.ErrShort)
 				}
 			}
 		}
@@ -99,17 +99,17 @@ func TestP7_3FromTheEndOn(t *testing.T) {
 func TestP7_3RefusesNumbersThatHaveAShorterCode(t *testing.T) {
 	ones := strings.Repeat("1", 48)
 	for k := range 25 {
-		least := 48 * power(k)
-		for _, n := range []uint64{0, 1, 47, power(k) - 1, power(k), least / 2, least - power(k), least - 2, least - 1} {
+		least := 48 * rows.Power(k)
+		for _, n := range []uint64{0, 1, 47, rows.Power(k) - 1, rows.Power(k), least / 2, least - rows.Power(k), least - 2, least - 1} {
 			for _, head := range []string{"", "01", rows.Noise(k, 13)} {
 				for _, tail := range []string{"", "0", "11111111"} {
-					text := head + ones + digits(n, 32) + tail
+					text := head + ones + rows.Digits(n, 32) + tail
 					wantNotRead(t, fmt.Sprint("MaxRun and ", n), rows.Bits(text), len(head), k, api.ErrForm)
 				}
 			}
 		}
-		for _, n := range []uint64{least, least + 1, 2 * least, power(31), power(32) - 1} {
-			text := ones + digits(n, 32)
+		for _, n := range []uint64{least, least + 1, 2 * least, rows.Power(31), rows.Power(32) - 1} {
+			text := ones + rows.Digits(n, 32)
 			wantRead(t, fmt.Sprint("MaxRun and ", n), rows.Bits(text), 0, k, uint32(n), 80)
 		}
 	}
@@ -131,7 +131,7 @@ func TestP7_3FullBits(t *testing.T) {
 	text := rows.Noise(7, api.MaxBits)
 	for _, at := range []int{0, 1, 1000, 77777, 200001, api.MaxBits - 200, api.MaxBits - 90} {
 		for k := range 25 {
-			v, length, e := firstCode(text[at:at+80], k)
+			v, length, e := rows.FirstRice(text[at:at+80], k)
 			if e != api.OK {
 				t.Fatal(at, k, e)
 			}

@@ -27,8 +27,8 @@ func TestP7_1Examples(t *testing.T) {
 
 func TestP7_1AllParameters(t *testing.T) {
 	for k := range 25 {
-		for _, v := range numbers(k) {
-			if length := mustLength(t, v, k); length != len(code(v, k)) {
+		for _, v := range rows.RiceNumbers(k) {
+			if length := mustLength(t, v, k); length != len(rows.Rice(v, k)) {
 				t.Errorf("Length(%d, %d) = %d", v, k, length)
 			}
 		}
@@ -71,7 +71,7 @@ func TestP7_2Examples(t *testing.T) {
 
 func TestP7_2AllParametersBehindBits(t *testing.T) {
 	for k := range 25 {
-		for _, v := range numbers(k) {
+		for _, v := range rows.RiceNumbers(k) {
 			for _, head := range []string{"", "1", "1011010", "11111111", rows.Noise(k, 67)} {
 				wantWritten(t, head, v, k)
 			}
@@ -88,9 +88,9 @@ func TestP7_2AllParametersBehindBits(t *testing.T) {
 
 func TestP7_2BehindNothing(t *testing.T) {
 	for _, b := range []api.Bits{{}, {Bytes: []byte{}}, {Bytes: []byte{255, 255}[:0]}} {
-		for _, v := range numbers(3) {
+		for _, v := range rows.RiceNumbers(3) {
 			c, e := rice.Write(b, v, 3)
-			if e != api.OK || !rows.Same(c, rows.Bits(code(v, 3))) {
+			if e != api.OK || !rows.Same(c, rows.Bits(rows.Rice(v, 3))) {
 				t.Errorf("Write of %d = %v, %d", v, c, e)
 			}
 		}
@@ -103,7 +103,7 @@ func TestP7_2UpToTheLimit(t *testing.T) {
 		v uint32
 		k int
 	}{{0, 0}, {3, 0}, {47, 0}, {48, 0}, {9, 2}, {0, 7}, {5000, 8}, {0, 24}, {48<<24 - 1, 24}, {math.MaxUint32, 24}} {
-		length := len(code(c.v, c.k))
+		length := len(rows.Rice(c.v, c.k))
 		for _, room := range []int{length, length + 1, length + 8} {
 			front := rows.Full(room)
 			b, e := rice.Write(front, c.v, c.k)

@@ -1,4 +1,4 @@
-// Package rows gives the tests of several layers bits: from texts of zeros and ones, and not from package bits, so that no test relies on what it checks.
+// Package rows gives the tests of several layers bits and Rice codes: from texts of zeros and ones, and not from packages bits and rice, so that no test relies on what it checks.
 package rows
 
 import (
@@ -25,6 +25,15 @@ func Bits(text string) api.Bits {
 		place *= 2
 	}
 	return b
+}
+
+// Text is the text of zeros and ones that valid bits have.
+func Text(b api.Bits) string {
+	var text strings.Builder
+	for i := range b.N {
+		text.WriteByte('0' + b.Bytes[i/byteBits]>>(i%byteBits)&1)
+	}
+	return text.String()
 }
 
 // Noise is a text of n bits without a pattern that repeats soon; another seed gives another one.
