@@ -13,7 +13,7 @@ import (
 const maxSum = 68719476735
 
 // first is the first state.
-var first = api.Dual{K0: 10, K1: 10, Sum0: 16384, Sum1: 16384}
+var first = rows.Start()
 
 // someKs are the least ones, the greatest ones, and some between.
 var someKs = []int{0, 1, 2, 7, 8, 10, 23, 24}
@@ -72,67 +72,6 @@ func allKs() []api.Dual {
 	return l
 }
 
-// numbers are the least and the greatest ones of all, of each kind of code in a state, and some without a pattern.
-func numbers(d api.Dual) []uint32 {
-	least := uint32(rows.Power(d.K0))
-	l := []uint32{0, 1, 2, 5, least / 2, least - 2, least - 1, math.MaxUint32 - least, math.MaxUint32 - least + 1, math.MaxUint32 - 1, math.MaxUint32}
-	for _, left := range rows.RiceNumbers(d.K1) {
-		// A sum that is too great is some other number.
-		l = append(l, least+left)
-	}
-	return append(l, rows.AllSizes(d.K0, 20)...)
-}
-
-// code is the code of a number in a state as a text of zeros and ones, as the chapter defines it.
-func code(d api.Dual, v uint32) string {
-	least := rows.Power(d.K0)
-	if uint64(v) < least {
-		return "0" + rows.Digits(uint64(v), d.K0)
-	}
-	return "1" + rows.Rice(uint32(uint64(v)-least), d.K1)
-}
-
-// firstCode is what a code at the beginning of a text stands for, and how long it is; its error if there is none.
-func firstCode(text string, d api.Dual) (v uint32, length int, e api.Errno) {
-	if text == "" || text[0] == '0' && len(text) < 1+d.K0 {
-		return 0, 0, api.ErrShort
-	}
-	if text[0] == '0' {
-		return uint32(rows.Number(text[1 : 1+d.K0])), 1 + d.K0, api.OK
-	}
-	left, length, e := rows.FirstRice(text[1:], d.K1)
-	if e != api.OK {
-		return 0, 0, e
-	}
-	n := uint64(left) + rows.Power(d.K0)
-	if n > math.MaxUint32 {
-		return 0, 0, api.ErrForm
-	}
-	return uint32(n), 1 + length, api.OK
-}
-
-// learnt is a pair that has learnt a number, as the chapter defines it.
-func learnt(k int, sum uint64, v uint32) (int, uint64) {
-	now := int64(sum) - int64(sum)/16 + int64(v)
-	if now < int64(16*rows.Power(k)) {
-		return max(k-1, 0), uint64(now)
-	}
-	if now > int64(32*rows.Power(k)) {
-		return min(k+1, 24), uint64(now)
-	}
-	return k, uint64(now)
-}
-
-// behind is the state behind a number, as the chapter defines it.
-func behind(d api.Dual, v uint32) api.Dual {
-	x := d
-	if least := rows.Power(d.K0); uint64(v) >= least {
-		x.K1, x.Sum1 = learnt(d.K1, d.Sum1, uint32(uint64(v)-least))
-	}
-	x.K0, x.Sum0 = learnt(d.K0, d.Sum0, v)
-	return x
-}
-
 func wantLearnt(t *testing.T, d api.Dual, v uint32, want api.Dual) {
 	t.Helper()
 	x, e := dual.Learn(d, v)
@@ -152,8 +91,8 @@ func wantLength(t *testing.T, d api.Dual, v uint32, want int) {
 func wantWritten(t *testing.T, head string, d api.Dual, v uint32) {
 	t.Helper()
 	b, x, e := dual.Write(rows.Bits(head), d, v)
-	if e != api.OK || !rows.Same(b, rows.Bits(head+code(d, v))) || x != behind(d, v) {
-		t.Fatalf("Write(%q, %v, %d) = %v, %v, %d; want the code %q, and %v", head, d, v, b, x, e, code(d, v), behind(d, v))
+	if e != api.OK || !rows.Same(b, rows.Bits(head+rows.Dual(d, v))) || x != rows.Behind(d, v) {
+		t.Fatalf("Write(%q, %v, %d) = %v, %v, %d; want the code %q, and %v", head, d, v, b, x, e, rows.Dual(d, v), rows.Behind(d, v))
 	}
 }
 
@@ -168,8 +107,8 @@ func wantNotWritten(t *testing.T, what string, b api.Bits, d api.Dual, v uint32,
 func wantRead(t *testing.T, what string, b api.Bits, at int, d api.Dual, want uint32, wantNext int) {
 	t.Helper()
 	v, next, x, e := dual.Read(b, at, d)
-	if e != api.OK || v != want || next != wantNext || x != behind(d, want) {
-		t.Fatalf("Read of %s at %d in %v = %d, %d, %v, %d; want %d, %d, %v", what, at, d, v, next, x, e, want, wantNext, behind(d, want))
+	if e != api.OK || v != want || next != wantNext || x != rows.Behind(d, want) {
+		t.Fatalf("Read of %s at %d in %v = %d, %d, %v, %d; want %d, %d, %v", what, at, d, v, next, x, e, want, wantNext, rows.Behind(d, want))
 	}
 }
 

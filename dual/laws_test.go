@@ -14,7 +14,7 @@ import (
 
 func TestP8_4TheStateStaysValid(t *testing.T) {
 	for _, d := range append(states(), allKs()...) {
-		for _, v := range numbers(d) {
+		for _, v := range rows.DualNumbers(d) {
 			if x := mustLearn(t, d, v); dual.Check(x) != api.OK {
 				t.Fatalf("Learn(%v, %d) = %v", d, v, x)
 			}
@@ -67,7 +67,7 @@ func text(t *testing.T, d api.Dual, v uint32) string {
 // Of codes in order each one that another one begins with stands just before such a one.
 func TestP8_4NoCodeBeginsAnotherOne(t *testing.T) {
 	for _, d := range allKs() {
-		l := numbers(d)
+		l := rows.DualNumbers(d)
 		for i := range uint32(200) {
 			l = append(l, i, uint32(rows.Power(d.K0))+i)
 		}
@@ -118,7 +118,7 @@ func TestP8_4ThereIsOneCodeForEachNumber(t *testing.T) {
 
 func TestP8_4HowLongCodesAre(t *testing.T) {
 	for _, d := range append(states(), allKs()...) {
-		for _, v := range numbers(d) {
+		for _, v := range rows.DualNumbers(d) {
 			length, e := dual.Length(d, v)
 			if b, _ := mustWrite(t, api.Bits{}, d, v); e != api.OK || b.N != length || length < 1 || length > 81 {
 				t.Fatalf("%d in %v: %d bits, but Length %d, %d", v, d, b.N, length, e)
@@ -129,7 +129,7 @@ func TestP8_4HowLongCodesAre(t *testing.T) {
 
 func TestP8_4APairChangesItsKByAtMostOne(t *testing.T) {
 	for _, d := range append(states(), allKs()...) {
-		for _, v := range numbers(d) {
+		for _, v := range rows.DualNumbers(d) {
 			x := mustLearn(t, d, v)
 			if x.K0 < d.K0-1 || x.K0 > d.K0+1 || x.K1 < d.K1-1 || x.K1 > d.K1+1 {
 				t.Fatalf("Learn(%v, %d) = %v", d, v, x)
@@ -140,7 +140,7 @@ func TestP8_4APairChangesItsKByAtMostOne(t *testing.T) {
 
 func TestP8_4TheFirstPairDoesNotDependOnTheSecondOne(t *testing.T) {
 	for _, d := range states() {
-		for _, v := range numbers(d) {
+		for _, v := range rows.DualNumbers(d) {
 			want := mustLearn(t, d, v)
 			for _, other := range []api.Dual{{}, first, {K1: 24, Sum1: maxSum}} {
 				other.K0, other.Sum0 = d.K0, d.Sum0
@@ -202,7 +202,7 @@ func TestP1ResultsAreValidForAllArguments(t *testing.T) {
 }
 
 func TestP1NothingIsKeptFromCallToCall(t *testing.T) {
-	b := rows.Bits("0" + code(first, math.MaxUint32) + code(first, 9))
+	b := rows.Bits("0" + rows.Dual(first, math.MaxUint32) + rows.Dual(first, 9))
 	for range 3 {
 		wantNotRead(t, "bits", b, -1, first, api.ErrArg)
 		wantNotRead(t, "bits", b, 0, api.Dual{K0: 25}, api.ErrBad)

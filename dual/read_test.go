@@ -22,9 +22,9 @@ func TestP8_3InAllStatesAnywhere(t *testing.T) {
 	tails := []string{"", "0", "1", strings.Repeat("0", 90), strings.Repeat("1", 90)}
 	for i, d := range append(allKs(), states()...) {
 		head := rows.Noise(i, i%67)
-		for j, v := range numbers(d) {
-			text := head + code(d, v) + tails[j%len(tails)]
-			wantRead(t, text, rows.Bits(text), len(head), d, v, len(head)+len(code(d, v)))
+		for j, v := range rows.DualNumbers(d) {
+			text := head + rows.Dual(d, v) + tails[j%len(tails)]
+			wantRead(t, text, rows.Bits(text), len(head), d, v, len(head)+len(rows.Dual(d, v)))
 		}
 	}
 }
@@ -33,8 +33,8 @@ func TestP8_3BehindBits(t *testing.T) {
 	for _, head := range rows.Heads() {
 		for _, d := range []api.Dual{first, {}, {K0: 1, K1: 7}, {K0: 24, K1: 24}, {K0: 8, K1: 0, Sum0: maxSum, Sum1: maxSum}} {
 			for _, v := range []uint32{0, 1, 100, 255, 256, 1000, 1024, 1 << 24, 1 << 30, math.MaxUint32} {
-				text := head + code(d, v) + "10"
-				wantRead(t, text, rows.Bits(text), len(head), d, v, len(head)+len(code(d, v)))
+				text := head + rows.Dual(d, v) + "10"
+				wantRead(t, text, rows.Bits(text), len(head), d, v, len(head)+len(rows.Dual(d, v)))
 			}
 		}
 	}
@@ -45,7 +45,7 @@ func wantFirstCodes(t *testing.T, text string, d api.Dual) {
 	t.Helper()
 	b := rows.Bits(text)
 	for at := range len(text) + 1 {
-		v, length, e := firstCode(text[at:], d)
+		v, length, e := rows.FirstDual(text[at:], d)
 		if e != api.OK {
 			wantNotRead(t, text, b, at, d, e)
 			continue
@@ -83,8 +83,8 @@ func TestP8_3BitsThatEndBeforeTheCodeDoes(t *testing.T) {
 		head := rows.Noise(i, i%41)
 		for _, left := range []uint32{0, 1, 47 << d.K1, 48 << d.K1, 1 << 31} {
 			for _, v := range []uint32{left, left + uint32(rows.Power(d.K0)), math.MaxUint32} {
-				for length := range len(code(d, v)) {
-					wantNotRead(t, head, rows.Bits(head+code(d, v)[:length]), len(head), d, api.ErrShort)
+				for length := range len(rows.Dual(d, v)) {
+					wantNotRead(t, head, rows.Bits(head+rows.Dual(d, v)[:length]), len(head), d, api.ErrShort)
 				}
 			}
 		}
@@ -154,7 +154,7 @@ func TestP8_3FullBits(t *testing.T) {
 	text := rows.Noise(7, api.MaxBits)
 	for _, at := range []int{0, 1, 1000, 77777, 200001, api.MaxBits - 200, api.MaxBits - 90} {
 		for _, d := range allKs() {
-			v, length, e := firstCode(text[at:at+81], d)
+			v, length, e := rows.FirstDual(text[at:at+81], d)
 			if e != api.OK {
 				t.Fatal(at, d, e)
 			}
@@ -163,7 +163,7 @@ func TestP8_3FullBits(t *testing.T) {
 	}
 	for at := api.MaxBits - 30; at < api.MaxBits+10; at++ {
 		for _, d := range []api.Dual{first, {K0: 24}, {}} {
-			v, length, e := firstCode(text[min(at, api.MaxBits):], d)
+			v, length, e := rows.FirstDual(text[min(at, api.MaxBits):], d)
 			if e != api.OK {
 				wantNotRead(t, "full bits", full, at, d, e)
 				continue

@@ -141,8 +141,8 @@ func TestP8_1LearnTellsOnlyWhatIsLeftToTheSecondPair(t *testing.T) {
 
 func TestP8_1LearnInAllStates(t *testing.T) {
 	for _, d := range append(states(), allKs()...) {
-		for _, v := range numbers(d) {
-			wantLearnt(t, d, v, behind(d, v))
+		for _, v := range rows.DualNumbers(d) {
+			wantLearnt(t, d, v, rows.Behind(d, v))
 		}
 	}
 }
@@ -153,7 +153,7 @@ func TestP8_1LearnManyNumbers(t *testing.T) {
 		for i, v := range rows.AllSizes(seed, 3000) {
 			// Long stretches of small and of great numbers move both K far.
 			v >>= (i / 500 * 7) % 32
-			x := behind(d, v)
+			x := rows.Behind(d, v)
 			wantLearnt(t, d, v, x)
 			d = x
 		}

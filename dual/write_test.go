@@ -29,8 +29,8 @@ func TestP8_2LengthExamples(t *testing.T) {
 
 func TestP8_2LengthInAllStates(t *testing.T) {
 	for _, d := range allKs() {
-		for _, v := range numbers(d) {
-			wantLength(t, d, v, len(code(d, v)))
+		for _, v := range rows.DualNumbers(d) {
+			wantLength(t, d, v, len(rows.Dual(d, v)))
 		}
 	}
 }
@@ -66,7 +66,7 @@ func TestP8_2WriteExamples(t *testing.T) {
 		{api.Dual{K0: 2, K1: 3}, 4 + 8 + 6, "1" + "10" + "011"},
 	} {
 		b, x, e := dual.Write(api.Bits{}, c.d, c.v)
-		if e != api.OK || !rows.Same(b, rows.Bits(c.want)) || x != behind(c.d, c.v) {
+		if e != api.OK || !rows.Same(b, rows.Bits(c.want)) || x != rows.Behind(c.d, c.v) {
 			t.Errorf("Write of %d in %v = %v, %v, %d", c.v, c.d, b, x, e)
 		}
 	}
@@ -75,7 +75,7 @@ func TestP8_2WriteExamples(t *testing.T) {
 func TestP8_2WriteInAllStates(t *testing.T) {
 	for i, d := range append(allKs(), states()...) {
 		head := rows.Noise(i, i%67)
-		for _, v := range numbers(d) {
+		for _, v := range rows.DualNumbers(d) {
 			wantWritten(t, head, d, v)
 		}
 	}
@@ -93,9 +93,9 @@ func TestP8_2WriteBehindBits(t *testing.T) {
 
 func TestP8_2WriteBehindNothing(t *testing.T) {
 	for _, b := range []api.Bits{{}, {Bytes: []byte{}}, {Bytes: []byte{255, 255}[:0]}} {
-		for _, v := range numbers(first) {
+		for _, v := range rows.DualNumbers(first) {
 			c, x, e := dual.Write(b, first, v)
-			if e != api.OK || !rows.Same(c, rows.Bits(code(first, v))) || x != behind(first, v) {
+			if e != api.OK || !rows.Same(c, rows.Bits(rows.Dual(first, v))) || x != rows.Behind(first, v) {
 				t.Errorf("Write of %d = %v, %v, %d", v, c, x, e)
 			}
 		}
@@ -107,11 +107,11 @@ func TestP8_2WriteUpToTheLimit(t *testing.T) {
 		d api.Dual
 		v uint32
 	}{{api.Dual{}, 0}, {api.Dual{}, 1}, {first, 5}, {first, 2000}, {api.Dual{K0: 24}, 9}, {api.Dual{K0: 3, K1: 24}, 1 << 29}, {first, math.MaxUint32}} {
-		length := len(code(c.d, c.v))
+		length := len(rows.Dual(c.d, c.v))
 		for _, room := range []int{length, length + 1, length + 8} {
 			front := rows.Full(room)
 			b, x, e := dual.Write(front, c.d, c.v)
-			if e != api.OK || b.N != front.N+length || x != behind(c.d, c.v) {
+			if e != api.OK || b.N != front.N+length || x != rows.Behind(c.d, c.v) {
 				t.Fatalf("Write of %d in %v with room for %d: %d bits, %v, %d", c.v, c.d, room, b.N, x, e)
 			}
 			wantRead(t, "almost full bits", b, front.N, c.d, c.v, front.N+length)
