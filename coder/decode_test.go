@@ -21,26 +21,26 @@ func TestP9_2Examples(t *testing.T) {
 }
 
 func TestP9_2AllOfShortLists(t *testing.T) {
-	for _, l := range short() {
-		wantDecoded(t, name(l), rows.Bits(textOf(l)), l, len(textOf(l)))
+	for _, l := range rows.ShortLists() {
+		wantDecoded(t, name(l), rows.Bits(rows.Code(l)), l, len(rows.Code(l)))
 	}
 }
 
 func TestP9_2FewerNumbersThanThereAre(t *testing.T) {
-	for _, l := range short() {
-		text := textOf(l)
+	for _, l := range rows.ShortLists() {
+		text := rows.Code(l)
 		for n := range len(l) + 1 {
-			wantDecoded(t, name(l), rows.Bits(text), l[:n], len(textOf(l[:n])))
+			wantDecoded(t, name(l), rows.Bits(text), l[:n], len(rows.Code(l[:n])))
 		}
 	}
 }
 
 func TestP9_2LongLists(t *testing.T) {
-	for _, l := range long() {
-		text := textOf(l)
+	for _, l := range rows.LongLists() {
+		text := rows.Code(l)
 		b := rows.Bits(text)
 		for _, n := range []int{0, 1, len(l) / 2, len(l) - 1, len(l)} {
-			wantDecoded(t, name(l), b, l[:n], len(textOf(l[:n])))
+			wantDecoded(t, name(l), b, l[:n], len(rows.Code(l[:n])))
 		}
 		wantNotDecoded(t, name(l), rows.Bits(text[:len(text)-1]), len(l), api.ErrShort)
 		if len(l) < api.MaxList {
@@ -70,11 +70,11 @@ func TestP9_2BitsWithoutAPattern(t *testing.T) {
 }
 
 func TestP9_2BitsThatEndBeforeTheCodeDoes(t *testing.T) {
-	for _, l := range short() {
+	for _, l := range rows.ShortLists() {
 		if len(l) > 12 {
 			continue
 		}
-		text := textOf(l)
+		text := rows.Code(l)
 		for length := range text {
 			wantNotDecoded(t, text[:length], rows.Bits(text[:length]), len(l), api.ErrShort)
 		}
@@ -83,22 +83,10 @@ func TestP9_2BitsThatEndBeforeTheCodeDoes(t *testing.T) {
 	}
 }
 
-// refused are codes that dual.Read refuses behind numbers: one that a shorter one stands for, and one of a number that is too great.
-func refused(l []uint32) []string {
-	_, d := code(l)
-	ones := "1" + strings.Repeat("1", 48)
-	return []string{
-		ones + rows.Digits(0, 32),
-		ones + rows.Digits(48*rows.Power(d.K1)-1, 32),
-		ones + rows.Digits(rows.Power(32)-rows.Power(d.K0), 32),
-		ones + rows.Digits(math.MaxUint32, 32),
-	}
-}
-
 func TestP9_2TheErrorOfTheFirstNumberThatHasOne(t *testing.T) {
-	for _, l := range short() {
-		text := textOf(l)
-		for _, bad := range refused(l) {
+	for _, l := range rows.ShortLists() {
+		text := rows.Code(l)
+		for _, bad := range rows.Refused(rows.BehindAll(l)) {
 			for _, tail := range []string{"", "0", rows.Noise(len(l), 100)} {
 				b := rows.Bits(text + bad + tail)
 				wantDecoded(t, name(l), b, l, len(text))
@@ -130,12 +118,12 @@ func TestP9_2FullBits(t *testing.T) {
 		wantAsDefined(t, text[:api.MaxBits-1], rows.Full(1), n)
 	}
 	zeros := api.Bits{Bytes: make([]byte, api.MaxBits/8), N: api.MaxBits}
-	wantDecoded(t, "zeros", zeros, alike(0, api.MaxList), len(textOf(alike(0, api.MaxList))))
+	wantDecoded(t, "zeros", zeros, rows.Alike(0, api.MaxList), len(rows.Code(rows.Alike(0, api.MaxList))))
 }
 
 func TestP9_2RefusesInOrder(t *testing.T) {
 	less := append(rows.BadIndexes(), -api.MaxList)
-	more := append([]int{math.MaxInt, math.MaxInt - 1, 1 << 32, 1<<32 + 1, 1 << 31}, tooMany...)
+	more := append([]int{math.MaxInt, math.MaxInt - 1, 1 << 32, 1<<32 + 1, 1 << 31}, rows.TooMany()...)
 	for what, b := range rows.Broken() {
 		for _, n := range append([]int{0, 1, 2, api.MaxList}, append(less, more...)...) {
 			wantNotDecoded(t, what, b, n, api.ErrBad)

@@ -37,30 +37,30 @@ func TestP9_1Examples(t *testing.T) {
 }
 
 func TestP9_1ShortLists(t *testing.T) {
-	for _, l := range short() {
+	for _, l := range rows.ShortLists() {
 		wantEncoded(t, l)
 	}
 }
 
 func TestP9_1LongLists(t *testing.T) {
-	for _, l := range long() {
+	for _, l := range rows.LongLists() {
 		wantEncoded(t, l)
 	}
 }
 
 // However many numbers there are, each one is coded in its place.
 func TestP9_1AllLengths(t *testing.T) {
-	l := waves(8, 700, 90)
+	l := rows.Waves(8, 700, 90)
 	for n := range l {
 		wantEncoded(t, l[:n])
 	}
 	for n := 3990; n <= 4000; n++ {
-		wantEncoded(t, waves(n, n, 500))
+		wantEncoded(t, rows.Waves(n, n, 500))
 	}
 }
 
 func TestP9_1TooManyNumbers(t *testing.T) {
-	for _, n := range tooMany {
+	for _, n := range rows.TooMany() {
 		wantNotEncoded(t, make([]uint32, n), api.ErrMany)
 		wantNotEncoded(t, slices.Repeat([]uint32{math.MaxUint32}, n), api.ErrMany)
 	}

@@ -16,7 +16,7 @@ import (
 
 func TestP9_3DecodedIsWhatWasCoded(t *testing.T) {
 	tails := []string{"", "0", "1", "0110101", strings.Repeat("0", 90), strings.Repeat("1", 90), rows.Noise(9, 333)}
-	for i, l := range append(short(), long()...) {
+	for i, l := range append(rows.ShortLists(), rows.LongLists()...) {
 		b := mustEncode(t, l)
 		wantDecoded(t, name(l), b, l, b.N)
 		tail := rows.Bits(tails[i%len(tails)])
@@ -29,7 +29,7 @@ func TestP9_3DecodedIsWhatWasCoded(t *testing.T) {
 }
 
 func TestP9_3TheCodeBeginsWithThatOfTheFirstNumbers(t *testing.T) {
-	for _, l := range append(short(), waves(1, 1000, 77)) {
+	for _, l := range append(rows.ShortLists(), rows.Waves(1, 1000, 77)) {
 		text := rows.Text(mustEncode(t, l))
 		for n := range len(l) + 1 {
 			if first := rows.Text(mustEncode(t, l[:n])); !strings.HasPrefix(text, first) {
@@ -41,7 +41,7 @@ func TestP9_3TheCodeBeginsWithThatOfTheFirstNumbers(t *testing.T) {
 
 // The codes of layer 8, each in the state behind the numbers before it.
 func TestP9_3TheCodesOfAllNumbersBehindEachOther(t *testing.T) {
-	for _, l := range append(short(), waves(2, 500, 60)) {
+	for _, l := range append(rows.ShortLists(), rows.Waves(2, 500, 60)) {
 		var b api.Bits
 		d := dual.Start()
 		for n, v := range l {
@@ -76,17 +76,17 @@ func TestP9_3WhatIsDecodedHasTheBitsThatWereRead(t *testing.T) {
 }
 
 func TestP9_3HowLongCodesAre(t *testing.T) {
-	for _, l := range append(short(), long()...) {
+	for _, l := range append(rows.ShortLists(), rows.LongLists()...) {
 		if b := mustEncode(t, l); b.N > 81*len(l) || b.N < len(l) || bits.Check(b) != api.OK {
 			t.Fatalf("%s: %d bits", name(l), b.N)
 		}
 	}
 	for n := range 100 {
-		if b := mustEncode(t, alike(math.MaxUint32, n)); b.N != 81*n {
+		if b := mustEncode(t, rows.Alike(math.MaxUint32, n)); b.N != 81*n {
 			t.Fatalf("the greatest number %d times: %d bits", n, b.N)
 		}
 	}
-	if b := mustEncode(t, alike(math.MaxUint32, api.MaxList)); b.N != 324000 {
+	if b := mustEncode(t, rows.Alike(math.MaxUint32, api.MaxList)); b.N != 324000 {
 		t.Errorf("the greatest number %d times: %d bits", api.MaxList, b.N)
 	}
 }
@@ -114,7 +114,7 @@ func TestP9_3ZerosHaveShortCodes(t *testing.T) {
 func TestP1ListsAreOnlyRead(t *testing.T) {
 	for _, l := range [][]uint32{{}, {5}, {5, 2000}, rows.AllSizes(3, 17), rows.AllSizes(4, 300)} {
 		// The memory goes on behind the list: neither read nor written by any call.
-		memory := append(slices.Clone(l), alike(77, 20)...)
+		memory := append(slices.Clone(l), rows.Alike(77, 20)...)
 		before := slices.Clone(memory)
 		wantEncoded(t, memory[:len(l)])
 		if !slices.Equal(memory, before) {
@@ -143,12 +143,12 @@ func TestP1BitsAreOnlyReadAndMemoryIsNotShared(t *testing.T) {
 		for n := -1; n < 12; n++ {
 			l, at, e := coder.Decode(b, n)
 			if e == api.OK {
-				made = append(made, rows.Bits(textOf(append(l, uint32(at)))))
+				made = append(made, rows.Bits(rows.Code(append(l, uint32(at)))))
 			}
 		}
 		return made
 	}
-	for _, s := range append(rows.Heads(), textOf(rows.AllSizes(2, 11)), textOf(make([]uint32, 9))) {
+	for _, s := range append(rows.Heads(), rows.Code(rows.AllSizes(2, 11)), rows.Code(make([]uint32, 9))) {
 		if fault := rows.MemoryFault(s, calls); fault != "" {
 			t.Fatalf("%q: %s", s, fault)
 		}
@@ -166,7 +166,7 @@ func TestP1BitsAreOnlyReadAndMemoryIsNotShared(t *testing.T) {
 
 // Bits that do not count, and bytes behind the length, are no part of a code.
 func TestP1LooksAtTheLengthNotTheCapacity(t *testing.T) {
-	memory := rows.Bits(textOf([]uint32{5, 2000, 9, 70000}) + strings.Repeat("0", 60))
+	memory := rows.Bits(rows.Code([]uint32{5, 2000, 9, 70000}) + strings.Repeat("0", 60))
 	for length := range len(memory.Bytes) + 1 {
 		b := api.Bits{Bytes: memory.Bytes[:length], N: 8 * length}
 		text := rows.Text(memory)[:b.N]
@@ -194,7 +194,7 @@ func TestP1ResultsForAllArguments(t *testing.T) {
 }
 
 func TestP1NothingIsKeptFromCallToCall(t *testing.T) {
-	text := textOf([]uint32{5, math.MaxUint32, 0})
+	text := rows.Code([]uint32{5, math.MaxUint32, 0})
 	for range 3 {
 		wantNotEncoded(t, make([]uint32, api.MaxList+1), api.ErrMany)
 		wantNotDecoded(t, text, rows.Bits(text), -1, api.ErrArg)

@@ -1,7 +1,6 @@
 package dual_test
 
 import (
-	"math"
 	"testing"
 
 	"cadenza/api"
@@ -9,38 +8,15 @@ import (
 	"cadenza/internal/rows"
 )
 
-// maxSum is the greatest Sum of a valid state.
-const maxSum = 68719476735
-
 // first is the first state.
 var first = rows.Start()
 
 // someKs are the least ones, the greatest ones, and some between.
 var someKs = []int{0, 1, 2, 7, 8, 10, 23, 24}
 
-// badKs are no parameters; some would be one if they were cut to fewer bits, or their sign lost.
-var badKs = []int{math.MinInt, math.MinInt + 10, -1 << 32, -256, -246, -24, -10, -1, 25, 26, 31, 32, 63, 64, 65, 128, 255, 256, 266, 1 << 16, 1 << 32, 1<<32 + 10, math.MaxInt - 1, math.MaxInt}
-
-// badSums are too great; some would not be if they were cut to fewer bits, or were numbers with a sign.
-var badSums = []uint64{maxSum + 1, maxSum + 2, 1 << 37, 1<<37 + 16384, 1 << 40, 1 << 63, 1<<63 + 16384, math.MaxUint64 - 1, math.MaxUint64}
-
-// broken are states that are not valid, most of them in one part alone.
-func broken() []api.Dual {
-	var l []api.Dual
-	for _, d := range []api.Dual{{}, first, {K0: 24, K1: 24, Sum0: maxSum, Sum1: maxSum}} {
-		for _, k := range badKs {
-			l = append(l, api.Dual{K0: k, K1: d.K1, Sum0: d.Sum0, Sum1: d.Sum1}, api.Dual{K0: d.K0, K1: k, Sum0: d.Sum0, Sum1: d.Sum1})
-		}
-		for _, sum := range badSums {
-			l = append(l, api.Dual{K0: d.K0, K1: d.K1, Sum0: sum, Sum1: d.Sum1}, api.Dual{K0: d.K0, K1: d.K1, Sum0: d.Sum0, Sum1: sum})
-		}
-	}
-	return append(l, api.Dual{K0: -1, K1: 25, Sum0: maxSum + 1, Sum1: math.MaxUint64})
-}
-
 // sums are the least and the greatest ones, and those near the limits at which a K changes.
 func sums(k int) []uint64 {
-	l := []uint64{0, 1, 15, 16, 17, maxSum - 16, maxSum - 1, maxSum}
+	l := []uint64{0, 1, 15, 16, 17, rows.MaxSum - 16, rows.MaxSum - 1, rows.MaxSum}
 	for _, p := range []uint64{rows.Power(k + 4), rows.Power(k + 5)} {
 		l = append(l, p-1, p, p+1, p*16/15-1, p*16/15, p*16/15+1)
 	}
@@ -56,17 +32,6 @@ func states() []api.Dual {
 			for i := range zeros {
 				l = append(l, api.Dual{K0: k0, K1: k1, Sum0: zeros[i], Sum1: ones[(i*7+k0)%len(ones)]})
 			}
-		}
-	}
-	return l
-}
-
-// allKs are valid states with all pairs of K.
-func allKs() []api.Dual {
-	var l []api.Dual
-	for k0 := range 25 {
-		for k1 := range 25 {
-			l = append(l, api.Dual{K0: k0, K1: k1, Sum0: 20 * rows.Power(k0), Sum1: 20 * rows.Power(k1)})
 		}
 	}
 	return l

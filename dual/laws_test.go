@@ -13,7 +13,7 @@ import (
 )
 
 func TestP8_4TheStateStaysValid(t *testing.T) {
-	for _, d := range append(states(), allKs()...) {
+	for _, d := range append(states(), rows.AllKs()...) {
 		for _, v := range rows.DualNumbers(d) {
 			if x := mustLearn(t, d, v); dual.Check(x) != api.OK {
 				t.Fatalf("Learn(%v, %d) = %v", d, v, x)
@@ -33,7 +33,7 @@ func TestP8_4TheStateStaysValid(t *testing.T) {
 }
 
 func TestP8_4BothSidesLearnTheSame(t *testing.T) {
-	for seed, start := range append([]api.Dual{first, {}}, allKs()...) {
+	for seed, start := range append([]api.Dual{first, {}}, rows.AllKs()...) {
 		l := rows.AllSizes(seed, 60)
 		var b api.Bits
 		d := start
@@ -66,7 +66,7 @@ func text(t *testing.T, d api.Dual, v uint32) string {
 
 // Of codes in order each one that another one begins with stands just before such a one.
 func TestP8_4NoCodeBeginsAnotherOne(t *testing.T) {
-	for _, d := range allKs() {
+	for _, d := range rows.AllKs() {
 		l := rows.DualNumbers(d)
 		for i := range uint32(200) {
 			l = append(l, i, uint32(rows.Power(d.K0))+i)
@@ -99,7 +99,7 @@ func wantReadIsItsCode(t *testing.T, s string, d api.Dual) {
 
 func TestP8_4ThereIsOneCodeForEachNumber(t *testing.T) {
 	ones := strings.Repeat("1", 49)
-	for i, d := range allKs() {
+	for i, d := range rows.AllKs() {
 		wantReadIsItsCode(t, rows.Noise(i, 120), d)
 		for j := range 8 {
 			// Behind MaxRun: numbers near the least one that may stand there, and near the greatest one.
@@ -117,7 +117,7 @@ func TestP8_4ThereIsOneCodeForEachNumber(t *testing.T) {
 }
 
 func TestP8_4HowLongCodesAre(t *testing.T) {
-	for _, d := range append(states(), allKs()...) {
+	for _, d := range append(states(), rows.AllKs()...) {
 		for _, v := range rows.DualNumbers(d) {
 			length, e := dual.Length(d, v)
 			if b, _ := mustWrite(t, api.Bits{}, d, v); e != api.OK || b.N != length || length < 1 || length > 81 {
@@ -128,7 +128,7 @@ func TestP8_4HowLongCodesAre(t *testing.T) {
 }
 
 func TestP8_4APairChangesItsKByAtMostOne(t *testing.T) {
-	for _, d := range append(states(), allKs()...) {
+	for _, d := range append(states(), rows.AllKs()...) {
 		for _, v := range rows.DualNumbers(d) {
 			x := mustLearn(t, d, v)
 			if x.K0 < d.K0-1 || x.K0 > d.K0+1 || x.K1 < d.K1-1 || x.K1 > d.K1+1 {
@@ -142,7 +142,7 @@ func TestP8_4TheFirstPairDoesNotDependOnTheSecondOne(t *testing.T) {
 	for _, d := range states() {
 		for _, v := range rows.DualNumbers(d) {
 			want := mustLearn(t, d, v)
-			for _, other := range []api.Dual{{}, first, {K1: 24, Sum1: maxSum}} {
+			for _, other := range []api.Dual{{}, first, {K1: 24, Sum1: rows.MaxSum}} {
 				other.K0, other.Sum0 = d.K0, d.Sum0
 				if x := mustLearn(t, other, v); x.K0 != want.K0 || x.Sum0 != want.Sum0 {
 					t.Fatalf("Learn(%v, %d) = %v, but Learn(%v) = %v", d, v, want, other, x)
@@ -183,7 +183,7 @@ func TestP1ResultsAreValidForAllArguments(t *testing.T) {
 	fault := func(x api.Dual, e api.Errno) bool {
 		return dual.Check(x) != api.OK || e != api.OK && x != (api.Dual{})
 	}
-	for _, d := range append(broken(), first, api.Dual{}, api.Dual{K0: 24, K1: 24, Sum0: maxSum, Sum1: maxSum}) {
+	for _, d := range append(rows.BrokenDuals(), first, api.Dual{}, api.Dual{K0: 24, K1: 24, Sum0: rows.MaxSum, Sum1: rows.MaxSum}) {
 		for _, b := range args {
 			for _, v := range []uint32{0, 1, 49, 1024, math.MaxUint32} {
 				c, x, e := dual.Write(b, d, v)

@@ -20,7 +20,7 @@ func TestP8_3Examples(t *testing.T) {
 
 func TestP8_3InAllStatesAnywhere(t *testing.T) {
 	tails := []string{"", "0", "1", strings.Repeat("0", 90), strings.Repeat("1", 90)}
-	for i, d := range append(allKs(), states()...) {
+	for i, d := range append(rows.AllKs(), states()...) {
 		head := rows.Noise(i, i%67)
 		for j, v := range rows.DualNumbers(d) {
 			text := head + rows.Dual(d, v) + tails[j%len(tails)]
@@ -31,7 +31,7 @@ func TestP8_3InAllStatesAnywhere(t *testing.T) {
 
 func TestP8_3BehindBits(t *testing.T) {
 	for _, head := range rows.Heads() {
-		for _, d := range []api.Dual{first, {}, {K0: 1, K1: 7}, {K0: 24, K1: 24}, {K0: 8, K1: 0, Sum0: maxSum, Sum1: maxSum}} {
+		for _, d := range []api.Dual{first, {}, {K0: 1, K1: 7}, {K0: 24, K1: 24}, {K0: 8, K1: 0, Sum0: rows.MaxSum, Sum1: rows.MaxSum}} {
 			for _, v := range []uint32{0, 1, 100, 255, 256, 1000, 1024, 1 << 24, 1 << 30, math.MaxUint32} {
 				text := head + rows.Dual(d, v) + "10"
 				wantRead(t, text, rows.Bits(text), len(head), d, v, len(head)+len(rows.Dual(d, v)))
@@ -68,7 +68,7 @@ func TestP8_3AllShortBits(t *testing.T) {
 }
 
 func TestP8_3LongBits(t *testing.T) {
-	for i, d := range allKs() {
+	for i, d := range rows.AllKs() {
 		wantFirstCodes(t, rows.Noise(i, 150), d)
 		wantFirstCodes(t, strings.Repeat("1", 49)+rows.Noise(i, 90), d)
 	}
@@ -79,7 +79,7 @@ func TestP8_3LongBits(t *testing.T) {
 }
 
 func TestP8_3BitsThatEndBeforeTheCodeDoes(t *testing.T) {
-	for i, d := range allKs() {
+	for i, d := range rows.AllKs() {
 		head := rows.Noise(i, i%41)
 		for _, left := range []uint32{0, 1, 47 << d.K1, 48 << d.K1, 1 << 31} {
 			for _, v := range []uint32{left, left + uint32(rows.Power(d.K0)), math.MaxUint32} {
@@ -107,7 +107,7 @@ func TestP8_3FromTheEndOn(t *testing.T) {
 
 func TestP8_3RefusesWhatRiceRefuses(t *testing.T) {
 	ones := strings.Repeat("1", 49)
-	for _, d := range allKs() {
+	for _, d := range rows.AllKs() {
 		least := 48 * rows.Power(d.K1)
 		for _, left := range []uint64{0, 1, 47, least / 2, least - 1} {
 			for _, tail := range []string{"", "0", "11111111"} {
@@ -122,7 +122,7 @@ func TestP8_3RefusesWhatRiceRefuses(t *testing.T) {
 
 func TestP8_3RefusesNumbersThatAreTooGreat(t *testing.T) {
 	ones := strings.Repeat("1", 49)
-	for _, d := range allKs() {
+	for _, d := range rows.AllKs() {
 		for _, head := range []string{"", "0", rows.Noise(d.K1, 13)} {
 			for _, tail := range []string{"", "0", "11111111"} {
 				greatest := uint64(math.MaxUint32) - rows.Power(d.K0)
@@ -153,7 +153,7 @@ func TestP8_3FullBits(t *testing.T) {
 	full := rows.Full(0)
 	text := rows.Noise(7, api.MaxBits)
 	for _, at := range []int{0, 1, 1000, 77777, 200001, api.MaxBits - 200, api.MaxBits - 90} {
-		for _, d := range allKs() {
+		for _, d := range rows.AllKs() {
 			v, length, e := rows.FirstDual(text[at:at+81], d)
 			if e != api.OK {
 				t.Fatal(at, d, e)
@@ -189,19 +189,19 @@ func TestP8_3RefusesInOrder(t *testing.T) {
 	indexes := append([]int{0, 1, 9, api.MaxBits, math.MaxInt}, rows.BadIndexes()...)
 	for what, b := range rows.Broken() {
 		for _, at := range indexes {
-			for _, d := range append(broken(), first, api.Dual{}) {
+			for _, d := range append(rows.BrokenDuals(), first, api.Dual{}) {
 				wantNotRead(t, what, b, at, d, api.ErrBad)
 			}
 		}
 	}
 	for _, text := range []string{"", "0", "1", "0000000000", strings.Repeat("1", 200), strings.Repeat("1", 49) + strings.Repeat("0", 32)} {
 		for _, at := range indexes {
-			for _, d := range broken() {
+			for _, d := range rows.BrokenDuals() {
 				wantNotRead(t, text, rows.Bits(text), at, d, api.ErrBad)
 			}
 		}
 		for _, at := range rows.BadIndexes() {
-			for _, d := range []api.Dual{first, {}, {K0: 24, K1: 24, Sum0: maxSum, Sum1: maxSum}} {
+			for _, d := range []api.Dual{first, {}, {K0: 24, K1: 24, Sum0: rows.MaxSum, Sum1: rows.MaxSum}} {
 				wantNotRead(t, text, rows.Bits(text), at, d, api.ErrArg)
 			}
 		}

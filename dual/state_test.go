@@ -19,7 +19,7 @@ func TestP8_1FirstState(t *testing.T) {
 }
 
 func TestP8_1CheckOfValidStates(t *testing.T) {
-	few := []uint64{0, 1, 16384, 1 << 32, maxSum - 1, maxSum}
+	few := []uint64{0, 1, 16384, 1 << 32, rows.MaxSum - 1, rows.MaxSum}
 	for k0 := range 25 {
 		for k1 := range 25 {
 			for _, sum0 := range few {
@@ -35,7 +35,7 @@ func TestP8_1CheckOfValidStates(t *testing.T) {
 }
 
 func TestP8_1CheckOfOthers(t *testing.T) {
-	for _, d := range broken() {
+	for _, d := range rows.BrokenDuals() {
 		if e := dual.Check(d); e != api.ErrBad {
 			t.Errorf("Check(%v): %d", d, e)
 		}
@@ -67,8 +67,8 @@ func TestP8_1LearnExamples(t *testing.T) {
 		{api.Dual{K0: 3, K1: 2, Sum0: 300, Sum1: 64}, 20, api.Dual{K0: 4, K1: 2, Sum0: 302, Sum1: 72}},
 		{api.Dual{K0: 3, K1: 2, Sum0: 16, Sum1: 64}, 9, api.Dual{K0: 2, K1: 1, Sum0: 24, Sum1: 61}},
 		// The greatest K and Sums.
-		{api.Dual{K0: 24, K1: 24, Sum0: maxSum, Sum1: maxSum}, math.MaxUint32, api.Dual{K0: 24, K1: 24, Sum0: maxSum, Sum1: maxSum - 1<<24}},
-		{api.Dual{K0: 0, K1: 0, Sum0: maxSum, Sum1: maxSum}, math.MaxUint32, api.Dual{K0: 1, K1: 1, Sum0: maxSum, Sum1: maxSum - 1}},
+		{api.Dual{K0: 24, K1: 24, Sum0: rows.MaxSum, Sum1: rows.MaxSum}, math.MaxUint32, api.Dual{K0: 24, K1: 24, Sum0: rows.MaxSum, Sum1: rows.MaxSum - 1<<24}},
+		{api.Dual{K0: 0, K1: 0, Sum0: rows.MaxSum, Sum1: rows.MaxSum}, math.MaxUint32, api.Dual{K0: 1, K1: 1, Sum0: rows.MaxSum, Sum1: rows.MaxSum - 1}},
 		{api.Dual{K0: 24, K1: 24, Sum0: 268435455, Sum1: 7}, 0, api.Dual{K0: 23, K1: 24, Sum0: 251658240, Sum1: 7}},
 	} {
 		wantLearnt(t, c.d, c.v, c.want)
@@ -124,7 +124,7 @@ func TestP8_1LearnAtEachLimitOfTheSecondPair(t *testing.T) {
 }
 
 func TestP8_1LearnTellsOnlyWhatIsLeftToTheSecondPair(t *testing.T) {
-	for _, d := range append(states(), allKs()...) {
+	for _, d := range append(states(), rows.AllKs()...) {
 		least := uint32(rows.Power(d.K0))
 		for _, v := range []uint32{0, 1, least / 2, least - 1} {
 			if x := mustLearn(t, d, min(v, least-1)); x.K1 != d.K1 || x.Sum1 != d.Sum1 {
@@ -140,7 +140,7 @@ func TestP8_1LearnTellsOnlyWhatIsLeftToTheSecondPair(t *testing.T) {
 }
 
 func TestP8_1LearnInAllStates(t *testing.T) {
-	for _, d := range append(states(), allKs()...) {
+	for _, d := range append(states(), rows.AllKs()...) {
 		for _, v := range rows.DualNumbers(d) {
 			wantLearnt(t, d, v, rows.Behind(d, v))
 		}
@@ -161,7 +161,7 @@ func TestP8_1LearnManyNumbers(t *testing.T) {
 }
 
 func TestP8_1LearnRefusesOtherStates(t *testing.T) {
-	for _, d := range broken() {
+	for _, d := range rows.BrokenDuals() {
 		for _, v := range []uint32{0, 1, 1023, 1024, 1 << 31, math.MaxUint32} {
 			if x, e := dual.Learn(d, v); e != api.ErrBad || x != (api.Dual{}) {
 				t.Errorf("Learn(%v, %d) = %v, %d", d, v, x, e)

@@ -28,7 +28,7 @@ func TestP8_2LengthExamples(t *testing.T) {
 }
 
 func TestP8_2LengthInAllStates(t *testing.T) {
-	for _, d := range allKs() {
+	for _, d := range rows.AllKs() {
 		for _, v := range rows.DualNumbers(d) {
 			wantLength(t, d, v, len(rows.Dual(d, v)))
 		}
@@ -36,7 +36,7 @@ func TestP8_2LengthInAllStates(t *testing.T) {
 }
 
 func TestP8_2LengthRefusesOtherStates(t *testing.T) {
-	for _, d := range broken() {
+	for _, d := range rows.BrokenDuals() {
 		for _, v := range []uint32{0, 1, 1023, 1024, 1 << 31, math.MaxUint32} {
 			if length, e := dual.Length(d, v); e != api.ErrBad || length != 0 {
 				t.Errorf("Length(%v, %d) = %d, %d", d, v, length, e)
@@ -73,7 +73,7 @@ func TestP8_2WriteExamples(t *testing.T) {
 }
 
 func TestP8_2WriteInAllStates(t *testing.T) {
-	for i, d := range append(allKs(), states()...) {
+	for i, d := range append(rows.AllKs(), states()...) {
 		head := rows.Noise(i, i%67)
 		for _, v := range rows.DualNumbers(d) {
 			wantWritten(t, head, d, v)
@@ -83,7 +83,7 @@ func TestP8_2WriteInAllStates(t *testing.T) {
 
 func TestP8_2WriteBehindBits(t *testing.T) {
 	for _, head := range rows.Heads() {
-		for _, d := range []api.Dual{first, {}, {K0: 1, K1: 7}, {K0: 24, K1: 24}, {K0: 8, K1: 0, Sum0: maxSum, Sum1: maxSum}} {
+		for _, d := range []api.Dual{first, {}, {K0: 1, K1: 7}, {K0: 24, K1: 24}, {K0: 8, K1: 0, Sum0: rows.MaxSum, Sum1: rows.MaxSum}} {
 			for _, v := range []uint32{0, 1, 100, 255, 256, 1000, 1024, 1 << 24, 1 << 30, math.MaxUint32} {
 				wantWritten(t, head, d, v)
 			}
@@ -124,14 +124,14 @@ func TestP8_2WriteUpToTheLimit(t *testing.T) {
 
 func TestP8_2WriteRefusesInOrder(t *testing.T) {
 	for what, b := range rows.Broken() {
-		for _, d := range append(broken(), first, api.Dual{}) {
+		for _, d := range append(rows.BrokenDuals(), first, api.Dual{}) {
 			for _, v := range []uint32{0, 5, math.MaxUint32} {
 				wantNotWritten(t, what, b, d, v, api.ErrBad)
 			}
 		}
 	}
 	full := rows.Full(0)
-	for _, d := range broken() {
+	for _, d := range rows.BrokenDuals() {
 		for _, v := range []uint32{0, 5, 1024, math.MaxUint32} {
 			wantNotWritten(t, "nothing", api.Bits{}, d, v, api.ErrBad)
 			wantNotWritten(t, "bits", rows.Bits("10110"), d, v, api.ErrBad)

@@ -44,3 +44,21 @@ func Broken() map[string]api.Bits {
 func BadIndexes() []int {
 	return []int{math.MinInt, math.MinInt + 1, math.MinInt + 48, -1 << 32, -64, -49, -48, -8, -2, -1}
 }
+
+// BrokenDuals are states of the code with two levels that are not valid, most of them in one part alone.
+func BrokenDuals() []api.Dual {
+	// Some would be valid if they were cut to fewer bits, or their sign lost.
+	ks := []int{math.MinInt, math.MinInt + 10, -1 << 32, -256, -246, -24, -10, -1, 25, 26, 31, 32, 63, 64, 65, 128, 255, 256, 266, 1 << 16, 1 << 32, 1<<32 + 10, math.MaxInt - 1, math.MaxInt}
+	// Some would be valid if they were cut to fewer bits, or were numbers with a sign.
+	sums := []uint64{MaxSum + 1, MaxSum + 2, 1 << 37, 1<<37 + 16384, 1 << 40, 1 << 63, 1<<63 + 16384, math.MaxUint64 - 1, math.MaxUint64}
+	var l []api.Dual
+	for _, d := range []api.Dual{{}, Start(), {K0: 24, K1: 24, Sum0: MaxSum, Sum1: MaxSum}} {
+		for _, k := range ks {
+			l = append(l, api.Dual{K0: k, K1: d.K1, Sum0: d.Sum0, Sum1: d.Sum1}, api.Dual{K0: d.K0, K1: k, Sum0: d.Sum0, Sum1: d.Sum1})
+		}
+		for _, sum := range sums {
+			l = append(l, api.Dual{K0: d.K0, K1: d.K1, Sum0: sum, Sum1: d.Sum1}, api.Dual{K0: d.K0, K1: d.K1, Sum0: d.Sum0, Sum1: sum})
+		}
+	}
+	return append(l, api.Dual{K0: -1, K1: 25, Sum0: MaxSum + 1, Sum1: math.MaxUint64})
+}

@@ -6,6 +6,9 @@ import (
 	"cadenza/api"
 )
 
+// MaxSum is the greatest Sum of a valid state.
+const MaxSum = 68719476735
+
 // Start is the first state of the code with two levels.
 func Start() api.Dual { return api.Dual{K0: 10, K1: 10, Sum0: 16384, Sum1: 16384} }
 
@@ -68,4 +71,15 @@ func DualNumbers(d api.Dual) []uint32 {
 		l = append(l, least+left)
 	}
 	return append(l, AllSizes(d.K0, 20)...)
+}
+
+// AllKs are valid states with all pairs of K.
+func AllKs() []api.Dual {
+	var l []api.Dual
+	for k0 := range 25 {
+		for k1 := range 25 {
+			l = append(l, api.Dual{K0: k0, K1: k1, Sum0: 20 * Power(k0), Sum1: 20 * Power(k1)})
+		}
+	}
+	return l
 }
