@@ -64,27 +64,6 @@ func noise(seed, n int) []byte {
 	return b
 }
 
-// both has the bits that are changed in one of two strings of the same length alone.
-func both(a, b []byte) []byte {
-	c := make([]byte, len(a))
-	for i := range c {
-		c[i] = a[i] ^ b[i]
-	}
-	return c
-}
-
-// burst is n bytes with the bits of a pattern from an index on, the lowest bit of a byte first; all others are 0.
-func burst(n, at int, pattern uint64) []byte {
-	b := make([]byte, n)
-	for ; pattern > 0; pattern /= 2 {
-		if pattern%2 == 1 {
-			b[at/8] |= 1 << (at % 8)
-		}
-		at++
-	}
-	return b
-}
-
 func mustNext(t *testing.T, state uint32, b []byte) uint32 {
 	t.Helper()
 	next, e := crc32.Next(state, b)

@@ -2,12 +2,12 @@ package crc32_test
 
 import (
 	"bytes"
-	"encoding/binary"
 	"slices"
 	"testing"
 
 	"cadenza/api"
 	"cadenza/crc32"
+	"cadenza/internal/rows"
 )
 
 func TestP3_3PartsAreTheWhole(t *testing.T) {
@@ -44,8 +44,8 @@ func TestP3_3ShortBurstsChangeTheSum(t *testing.T) {
 	b := noise(2, size)
 	sum := mustSum(t, b)
 	for pattern := uint64(1); pattern < 1<<16; pattern += 2 {
-		for at := range 8*size - 16 {
-			if mustSum(t, both(b, burst(size, at, pattern))) == sum {
+		for at := range 8*size - 15 {
+			if mustSum(t, rows.Both(b, rows.Burst(size, at, pattern))) == sum {
 				t.Fatalf("pattern %#x at %d", pattern, at)
 			}
 		}
@@ -54,15 +54,11 @@ func TestP3_3ShortBurstsChangeTheSum(t *testing.T) {
 
 func TestP3_3BurstsOfUpTo32BitsChangeTheSum(t *testing.T) {
 	const size = 24
-	patterns := []uint64{1, 3, 0x80000001, 0xffffffff, polynomial + 1, 0xaaaaaaab, 0x55555555}
-	for four := range slices.Chunk(noise(6, 1600), 4) {
-		patterns = append(patterns, uint64(binary.LittleEndian.Uint32(four))|1)
-	}
 	for _, b := range [][]byte{make([]byte, size), bytes.Repeat([]byte{255}, size), noise(9, size)} {
 		sum := mustSum(t, b)
-		for _, pattern := range patterns {
+		for _, pattern := range rows.Patterns() {
 			for at := range 8*size - 31 {
-				if mustSum(t, both(b, burst(size, at, pattern))) == sum {
+				if mustSum(t, rows.Both(b, rows.Burst(size, at, pattern))) == sum {
 					t.Fatalf("pattern %#x at %d", pattern, at)
 				}
 			}
@@ -76,7 +72,7 @@ func TestP3_3TheDivisorAloneIsNotSeen(t *testing.T) {
 	b := noise(13, size)
 	sum := mustSum(t, b)
 	for at := range 8*size - 32 {
-		if mustSum(t, both(b, burst(size, at, 2*polynomial+1))) != sum {
+		if mustSum(t, rows.Both(b, rows.Burst(size, at, rows.Divisor))) != sum {
 			t.Fatalf("at %d the sum is another one", at)
 		}
 	}
@@ -98,7 +94,7 @@ func TestP3_3ChangesTogether(t *testing.T) {
 	for n := range 80 {
 		for seed := range 10 {
 			a, b := noise(seed, n), noise(seed+n+100, n)
-			together := mustNext(t, 0, both(a, b))
+			together := mustNext(t, 0, rows.Both(a, b))
 			if want := mustNext(t, 0, a) ^ mustNext(t, 0, b); together != want {
 				t.Fatalf("%v and %v: %#x, not %#x", a, b, together, want)
 			}

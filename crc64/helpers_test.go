@@ -88,15 +88,6 @@ func noise(seed, n int) []byte {
 	return b
 }
 
-// both has the bits that are changed in one of two strings of the same length alone.
-func both(a, b []byte) []byte {
-	c := make([]byte, len(a))
-	for i := range c {
-		c[i] = a[i] ^ b[i]
-	}
-	return c
-}
-
 // burst is n bytes with the bits of a pattern from an index on, the highest bit of a byte first; all others are 0. The lowest bit of the pattern stands at the index.
 func burst(n, at int, pattern uint64) []byte {
 	b := make([]byte, n)

@@ -9,20 +9,21 @@ import (
 
 	"cadenza/api"
 	"cadenza/crc64"
+	"cadenza/internal/rows"
 )
 
 func TestP4_3ChangesTogether(t *testing.T) {
 	for n := range 80 {
 		for seed := range 10 {
 			a, b := noise(seed, n), noise(seed+n+100, n)
-			together := mustSum(t, both(a, b))
+			together := mustSum(t, rows.Both(a, b))
 			if want := mustSum(t, a) ^ mustSum(t, b); together != want {
 				t.Fatalf("%v and %v: %#x, not %#x", a, b, together, want)
 			}
 		}
 	}
 	a, b := noise(14, api.MaxFile), noise(15, api.MaxFile)
-	if mustSum(t, both(a, b)) != mustSum(t, a)^mustSum(t, b) {
+	if mustSum(t, rows.Both(a, b)) != mustSum(t, a)^mustSum(t, b) {
 		t.Error("as many bytes as there may be")
 	}
 }
@@ -161,7 +162,7 @@ func TestP4_3ShortBurstsChangeTheSum(t *testing.T) {
 	sum := mustSum(t, b)
 	for pattern := uint64(1); pattern < 1<<16; pattern += 2 {
 		for at := range 8*size - 15 {
-			if mustSum(t, both(b, burst(size, at, pattern))) == sum {
+			if mustSum(t, rows.Both(b, burst(size, at, pattern))) == sum {
 				t.Fatalf("pattern %#x at %d", pattern, at)
 			}
 		}
@@ -178,7 +179,7 @@ func TestP4_3BurstsOfUpTo64BitsChangeTheSum(t *testing.T) {
 		sum := mustSum(t, b)
 		for _, pattern := range patterns {
 			for at := range 8*size - 63 {
-				if mustSum(t, both(b, burst(size, at, pattern))) == sum {
+				if mustSum(t, rows.Both(b, burst(size, at, pattern))) == sum {
 					t.Fatalf("pattern %#x at %d", pattern, at)
 				}
 			}
@@ -192,8 +193,8 @@ func TestP4_3TheDivisorAloneIsNotSeen(t *testing.T) {
 	b := noise(13, size)
 	sum := mustSum(t, b)
 	for at := range 8*size - 64 {
-		divisor := both(burst(size, at, 1), burst(size, at+1, bits.Reverse64(polynomial)))
-		if mustSum(t, both(b, divisor)) != sum {
+		divisor := rows.Both(burst(size, at, 1), burst(size, at+1, bits.Reverse64(polynomial)))
+		if mustSum(t, rows.Both(b, divisor)) != sum {
 			t.Fatalf("at %d the sum is another one", at)
 		}
 	}

@@ -1,4 +1,4 @@
-// Package rows gives the tests of several layers bits, Rice codes, codes with two levels and those of lists: from texts of zeros and ones, and not from packages bits, rice, dual and coder, so that no test relies on what it checks.
+// Package rows gives the tests of several layers bits, Rice codes, codes with two levels and those of lists: from texts of zeros and ones, and not from packages bits, rice, dual and coder, so that no test relies on what it checks; and bursts that change bytes.
 package rows
 
 import (
